@@ -1,0 +1,1 @@
+"""Copies of a book held against one another."""

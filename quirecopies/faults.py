@@ -1,0 +1,15 @@
+"""The errors by which a text or some copies are refused."""
+
+
+# A text isn't of its form; place is where, from 0.
+class TextFault(Exception):
+    def __init__(self, place):
+        self.place = place
+
+
+# Copies have no ideal; why is 1 to 4, first and second are two copies' numbers.
+class NoIdeal(Exception):
+    def __init__(self, why, first, second):
+        self.why = why
+        self.first = first
+        self.second = second

@@ -1,0 +1,26 @@
+"""What the tests share: texts as lists of characters, and answers as texts."""
+
+from quirecopies.copies import ideal
+
+
+def chars(text):
+    return [ord(char) for char in text]
+
+
+def shown(answer):
+    """An answered text as a str, a refusal as its list."""
+    if answer[0] < 0:
+        return answer
+    if answer[0] != len(answer) - 1:
+        raise AssertionError(f"told {answer[0]} characters, gave {len(answer) - 1}")
+    return "".join(chr(char) for char in answer[1:])
+
+
+def ideal_of_lines(*lines):
+    return shown(ideal(chars("".join(line + "\n" for line in lines))))
+
+
+def marked(text):
+    """A text without its mark ^, and the place where the mark stood."""
+    place = text.index("^")
+    return text[:place] + text[place + 1:], place
