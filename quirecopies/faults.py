@@ -1,4 +1,4 @@
-"""The errors by which a text or some copies are refused."""
+"""The errors by which texts and copies are refused."""
 
 
 # A text isn't of its form; place is where, from 0.
@@ -13,3 +13,9 @@ class NoIdeal(Exception):
         self.why = why
         self.first = first
         self.second = second
+
+
+# A copy has this signature, and the book hasn't, or of another size.
+class NotOfBook(Exception):
+    def __init__(self, signature):
+        self.signature = signature

@@ -1,7 +1,7 @@
 """The ideal book of some copies."""
 
 from quirecopies.faults import NoIdeal
-from quirecopies.quires import MOST_QUIRES, Quire, has_good_word
+from quirecopies.quires import MOST_QUIRES, Quire, has_good_word, sizes_by_signature
 
 
 # The quires of the ideal of copies, each a list of quires; NoIdeal, if there's none.
@@ -23,10 +23,6 @@ def ask_sizes(copies):
         for higher in range(lower + 1, len(sizes)):
             if differ_in_size(sizes[lower], sizes[higher]):
                 raise NoIdeal(1, lower, higher)
-
-
-def sizes_by_signature(quires):
-    return dict([(quire.signature, quire.size) for quire in quires])
 
 
 def differ_in_size(sizes, others):

@@ -27,6 +27,10 @@ def is_size(number):
     return number == 1 or (number % 2 == 0 and 2 <= number <= MOST_SIZE)
 
 
+def sizes_by_signature(quires):
+    return dict([(quire.signature, quire.size) for quire in quires])
+
+
 # Whether a formula has no note of it.
 def is_plain(quire):
     return quire.leaves == [KEPT] * quire.size and all([not signs for signs in quire.gaps])

@@ -1,6 +1,6 @@
 """What the tests share: texts as lists of characters, and answers as texts."""
 
-from quirecopies.copies import ideal
+from quirecopies.copies import ideal, tell
 
 
 def chars(text):
@@ -17,10 +17,29 @@ def shown(answer):
 
 
 def ideal_of_lines(*lines):
-    return shown(ideal(chars("".join(line + "\n" for line in lines))))
+    return shown(ideal(chars(lined(*lines))))
+
+
+def told(book, copy):
+    """The lines of tell as one str, a refusal as its list."""
+    return shown(tell(chars(book), chars(copy)))
+
+
+def lined(*lines):
+    return "".join(line + "\n" for line in lines)
 
 
 def marked(text):
     """A text without its mark ^, and the place where the mark stood."""
     place = text.index("^")
     return text[:place] + text[place + 1:], place
+
+
+class Unchanging(list):
+    """A list that refuses every change, so that none is made for a while either."""
+
+    def refuse(self, *rest, **named):
+        raise AssertionError("what is handed in was changed")
+
+    append = clear = extend = insert = pop = remove = reverse = sort = refuse
+    __setitem__ = __delitem__ = __iadd__ = __imul__ = refuse

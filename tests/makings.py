@@ -68,3 +68,31 @@ def drawn_copy(draw, order, book, worn):
 
 def text_of(copies):
     return "".join(oracle.written(quires) + "\n" for quires in copies)
+
+
+def drawn_pair(draw, most=8):
+    """A book and a copy that has some of its gatherings, each perhaps worn otherwise, perhaps in another order."""
+    signatures = drawn_signatures(draw, draw.choice((1, 2, 3, 5, most)))
+    order = list(signatures)
+    if draw.random() < 0.5:
+        draw.shuffle(order)
+    worn = draw.choice((0, 0.1, 0.3))
+    book = [drawn_quire(draw, signature, signatures[signature], worn) for signature in order]
+    has = [quire for quire in book if draw.random() < draw.choice((0.7, 1))] or book[:1]
+    for time in range(draw.choice((0, 0, 1, 2, 4))):
+        has.insert(draw.randrange(len(has)), has.pop(draw.randrange(len(has))))
+    if draw.random() < 0.2:
+        draw.shuffle(has)
+    often = draw.choice((0, 0.5, 1))
+    return book, [drawn_quire(draw, quire["signature"], quire["size"], worn) if draw.random() < often else quire
+                  for quire in has]
+
+
+def drawn_stranger(draw, copy):
+    """A copy with a gathering that its book hasn't so: of another size, or of a signature that may not be there."""
+    place = draw.randrange(len(copy))
+    if draw.random() < 0.5:
+        return copy[:place] + [drawn_quire(draw, copy[place]["signature"], 6, 0.1)] + copy[place + 1:]
+    signature = (draw.randrange(1, 100), draw.randrange(50))
+    others = [quire for quire in copy if quire["signature"] != signature]
+    return others[:place] + [drawn_quire(draw, signature, 2, 0.1)] + others[place:]

@@ -3,7 +3,7 @@
 import itertools
 import unittest
 
-from helper import chars, ideal_of_lines
+from helper import Unchanging, chars, ideal_of_lines
 from quirecopies.copies import ideal
 
 FORTY_EIGHT = "A–Z² a–z² π² χ²"
@@ -217,16 +217,6 @@ class Promises(unittest.TestCase):
         for line in lines:
             self.assertEqual(ideal_of_lines(whole, line), whole)
             self.assertEqual(ideal_of_lines(line, whole), whole)
-
-
-class Unchanging(list):
-    """A list that refuses every change, so that none is made for a while either."""
-
-    def refuse(self, *rest, **named):
-        raise AssertionError("what is handed in was changed")
-
-    append = clear = extend = insert = pop = remove = reverse = sort = refuse
-    __setitem__ = __delitem__ = __iadd__ = __imul__ = refuse
 
 
 class NothingKept(unittest.TestCase):
