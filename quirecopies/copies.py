@@ -5,6 +5,7 @@ from quirecopies.faults import NoIdeal, NotOfBook, TextFault
 from quirecopies.formula_reader import read_copies, read_formula
 from quirecopies.formula_writer import formula_text
 from quirecopies.ideal_book import ideal_of
+from quirecopies.line_doer import do_lines
 
 
 # The ideal's formula, of copies t: how many characters, then these; else a refusal.
@@ -29,6 +30,19 @@ def tell(t, u):
     except NotOfBook:
         return [-4]
     return lines_answer(lines)
+
+
+# The formula of what comes of book t by the lines u: how many characters, then these; else a refusal.
+def do(t, u):
+    try:
+        quires = read_formula(t, 0, len(t))
+    except TextFault:
+        return [-6]
+    try:
+        do_lines(quires, u)
+    except TextFault as fault:
+        return [-3, fault.place]
+    return text_answer(formula_text(quires))
 
 
 def lines_answer(lines):

@@ -49,10 +49,13 @@ def partner_state(quire, leaf):
 
 # Whether a leaf that's kept as yet may be lost or cut, beside what its partner is.
 def may_become(quire, leaf, state):
-    if quire.size == 1:
-        return state == LOST
-    partner = partner_state(quire, leaf)
-    return partner == KEPT or (partner == LOST and state == LOST)
+    if state == CUT:
+        return may_be_cut(quire, leaf)
+    return partner_state(quire, leaf) != CUT
+
+
+def may_be_cut(quire, leaf):
+    return quire.size > 1 and partner_state(quire, leaf) == KEPT
 
 
 def leaf_signs(quire, leaf):
@@ -78,3 +81,14 @@ def word(quire):
 def has_good_word(quire):
     signs = word(quire)
     return len(signs) <= MOST_PLACES and has_leaf(signs)
+
+
+def has_good_cuts(quire):
+    return all([may_be_cut(quire, leaf) for leaf in range(1, quire.size + 1) if quire.leaves[leaf - 1] == CUT])
+
+
+# Whether quires of different signatures, with gatherings at their gaps, are a make-up.
+def is_make_up(quires):
+    if not 1 <= len(quires) <= MOST_QUIRES:
+        return False
+    return all([has_good_cuts(quire) and has_good_word(quire) for quire in quires])

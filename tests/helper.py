@@ -1,6 +1,6 @@
 """What the tests share: texts as lists of characters, and answers as texts."""
 
-from quirecopies.copies import ideal, tell
+from quirecopies.copies import do, ideal, tell
 
 
 def chars(text):
@@ -23,6 +23,11 @@ def ideal_of_lines(*lines):
 def told(book, copy):
     """The lines of tell as one str, a refusal as its list."""
     return shown(tell(chars(book), chars(copy)))
+
+
+def done(book, lines):
+    """The formula of do as a str, a refusal as its list."""
+    return shown(do(chars(book), chars(lines)))
 
 
 def lined(*lines):

@@ -96,3 +96,41 @@ def drawn_stranger(draw, copy):
     signature = (draw.randrange(1, 100), draw.randrange(50))
     others = [quire for quire in copy if quire["signature"] != signature]
     return others[:place] + [drawn_quire(draw, signature, 2, 0.1)] + others[place:]
+
+
+def spoilt(draw, text, stuff):
+    """A text with a few characters put in, taken out or otherwise, some of them out of stuff."""
+    row = list(text)
+    for time in range(draw.choice((1, 1, 1, 2, 3))):
+        place = draw.randrange(len(row) + 1)
+        how = draw.randrange(5)
+        if how == 0:
+            row.insert(place, draw.choice(stuff))
+        elif how == 1 and place < len(row):
+            row[place] = draw.choice(stuff)
+        elif how == 2 and place < len(row):
+            row.pop(place)
+        elif how == 3 and len(row) > 1:
+            first = draw.randrange(len(row))
+            row[place:place] = row[first:first + draw.randrange(1, 9)]
+        elif how == 4 and draw.random() < 0.3:
+            row = row[:place]
+    return "".join(row)
+
+
+def drawn_lines(draw, book, many):
+    """Lines that may mostly be done to the book, though perhaps not to what has become of it."""
+    lines = []
+    for number in range(many):
+        quire = draw.choice(book)
+        name = oracle.written_signature(quire["signature"])
+        kind = draw.choice("~−÷==+++>>>")
+        if kind in "−÷=":
+            name += f".{draw.randrange(1, quire['size'] + 1)}"
+        elif kind == "+":
+            told = draw.choice(("0", "0", "1", "9", "⟨()⟩", "⟨[|)⟩", "⟨||||||||||⟩"))
+            name += f".{draw.randrange(quire['size'] + 1)} {told}"
+        elif kind == ">" and draw.random() < 0.8:
+            name += " " + oracle.written_signature(draw.choice(book)["signature"])
+        lines.append(kind + name + "\n")
+    return "".join(lines)

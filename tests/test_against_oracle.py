@@ -5,29 +5,10 @@ import unittest
 
 import oracle
 from helper import chars, ideal_of_lines, shown
-from makings import drawn_copies, drawn_signatures, text_of
+from makings import drawn_copies, drawn_signatures, spoilt, text_of
 from quirecopies.copies import ideal
 
 STUFF = "ABCZabz2019πχ*†J –¹²³⁴⁰(),−÷+⟨⟩|[]\nx"
-
-
-def spoilt(draw, text):
-    row = list(text)
-    for time in range(draw.choice((1, 1, 1, 2, 3))):
-        place = draw.randrange(len(row) + 1)
-        how = draw.randrange(5)
-        if how == 0:
-            row.insert(place, draw.choice(STUFF))
-        elif how == 1 and place < len(row):
-            row[place] = draw.choice(STUFF)
-        elif how == 2 and place < len(row):
-            row.pop(place)
-        elif how == 3 and len(row) > 1:
-            first = draw.randrange(len(row))
-            row[place:place] = row[first:first + draw.randrange(1, 9)]
-        elif how == 4 and draw.random() < 0.3:
-            row = row[:place]
-    return "".join(row)
 
 
 class AgainstOracle(unittest.TestCase):
@@ -50,7 +31,7 @@ class AgainstOracle(unittest.TestCase):
         for number in range(1500):
             text = text_of(drawn_copies(draw, 4))
             for time in range(4):
-                self.ask(spoilt(draw, text))
+                self.ask(spoilt(draw, text, STUFF))
 
     def test_every_short_beginning(self):
         for text in ("2A–2C⁴ π²(0+⟨[)⟩, −1, 1+3) χ⁴(÷1)", "A¹(−1, 1+⟨()⟩) B²"):
