@@ -6,6 +6,7 @@ from quirecopies.formula_reader import read_copies, read_formula
 from quirecopies.formula_writer import formula_text
 from quirecopies.ideal_book import ideal_of
 from quirecopies.line_doer import do_lines
+from quirecopies.marks import LINE_FEED
 
 
 # The ideal's formula, of copies t: how many characters, then these; else a refusal.
@@ -43,6 +44,15 @@ def do(t, u):
     except TextFault as fault:
         return [-3, fault.place]
     return text_answer(formula_text(quires))
+
+
+# How many lines tell has of book t and copy u; else a refusal, as tell's.
+def count(t, u):
+    answer = tell(t, u)
+    if answer[0] < 0:
+        return answer
+    text = answer[1:]
+    return [text.count(LINE_FEED)]
 
 
 def lines_answer(lines):
