@@ -55,6 +55,20 @@ def count(t, u):
     return [text.count(LINE_FEED)]
 
 
+# The lines of the accidents of copy k, from 0, of copies t against their ideal, as tell's; else a refusal.
+def befell(k, t):
+    try:
+        copies = read_copies(t)
+        book = ideal_of(copies)
+    except TextFault:
+        return [-6]
+    except NoIdeal:
+        return [-1]
+    if k >= len(copies):
+        return [-4]
+    return lines_answer(accident_lines(book, copies[k]))
+
+
 def lines_answer(lines):
     text = []
     for line in lines:

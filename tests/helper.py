@@ -1,6 +1,6 @@
 """What the tests share: texts as lists of characters, and answers as texts."""
 
-from quirecopies.copies import do, ideal, tell
+from quirecopies.copies import befell, do, ideal, tell
 
 
 def chars(text):
@@ -28,6 +28,11 @@ def told(book, copy):
 def done(book, lines):
     """The formula of do as a str, a refusal as its list."""
     return shown(do(chars(book), chars(lines)))
+
+
+def befallen(number, *lines):
+    """The lines of befell as one str, a refusal as its list."""
+    return shown(befell(number, chars(lined(*lines))))
 
 
 def lined(*lines):

@@ -202,3 +202,12 @@ def is_make_up(quires):
         if not oracle.good_word(quire):
             return False
     return len(quires) > 0
+
+
+def befell(number, text):
+    """What befell answers, but an answered text as a str."""
+    book = oracle.ideal(text)
+    if not isinstance(book, str):
+        return book[:1]
+    lines = text.split("\n")[:-1]
+    return tell(book, lines[number]) if number < len(lines) else [-4]
