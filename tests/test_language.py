@@ -177,6 +177,26 @@ class Language(unittest.TestCase):
         free = set(dir(str) + dir(int) + dir(list) + dir(dict) + dir(set) + dir(bytes))
         self.assertFalse(values & free)
 
+    def test_walked_at_once(self):
+        makers = {"range", "zip", "enumerate", "reversed", "items", "keys", "values"}
+        takers = {"list", "tuple", "dict", "sorted", "sum", "any", "all", "enumerate", "zip", "min", "max"}
+        nodes = every_node()
+        walked = [node.iter for place, node in nodes if isinstance(node, (ast.For, ast.comprehension))]
+        for place, node in nodes:
+            if isinstance(node, ast.Call) and isinstance(node.func, ast.Name) and node.func.id in takers:
+                walked.extend(node.args[:1])
+        for place, node in nodes:
+            if isinstance(node, ast.Call) and getattr(node.func, "id", getattr(node.func, "attr", "")) in makers:
+                self.assertIn(node, walked, place)
+
+    def test_keywords(self):
+        allowed = {"sorted": {"key", "reverse"}, "min": {"key", "default"}, "max": {"key", "default"},
+                   "sum": {"start"}, "enumerate": {"start"}, "zip": {"strict"}}
+        for place, node in every_node():
+            if isinstance(node, ast.Call):
+                name = getattr(node.func, "id", "")
+                self.assertLessEqual({keyword.arg for keyword in node.keywords}, allowed.get(name, set()), place)
+
 
 if __name__ == "__main__":
     unittest.main()
